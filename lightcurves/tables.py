@@ -1,0 +1,67 @@
+"""Tables of magnitudes: checked, read, measured and made ready to be answered."""
+
+MOST_STARS = 32
+MOST_IMAGES = 64
+MAGNITUDE_BOUND = 100000
+
+
+def to_signed(number):
+    """The signed 32-bit integer that a number from 0 to 4294967295 stands for."""
+    if number >= 2 ** 31:
+        return number - 2 ** 32
+    return number
+
+
+def to_unsigned(number):
+    """A signed 32-bit integer in the form in which it is answered."""
+    if number < 0:
+        return number + 2 ** 32
+    return number
+
+
+def size_allowed(star_count, table_length):
+    """Whether the number of stars and the number of images are in their ranges."""
+    if star_count < 1 or star_count > MOST_STARS:
+        return False
+    image_count = table_length // star_count
+    return image_count >= 1 and image_count <= MOST_IMAGES
+
+
+def magnitudes_allowed(magnitudes):
+    """Whether each of the numbers stands for a magnitude."""
+    return all([abs(to_signed(number)) < MAGNITUDE_BOUND for number in magnitudes])
+
+
+def table_refusal(star_count, magnitudes):
+    """The error code for a table, or 0 if nothing is wrong with it."""
+    if not size_allowed(star_count, len(magnitudes)):
+        return -2
+    if not magnitudes_allowed(magnitudes):
+        return -3
+    return 0
+
+
+def read_images(star_count, magnitudes):
+    """The table as a list of images, each the list of its signed magnitudes."""
+    signed = [to_signed(number) for number in magnitudes]
+    return [signed[start:start + star_count] for start in range(0, len(signed), star_count)]
+
+
+def star_values(star, images):
+    """The magnitudes of one star, image by image."""
+    return [image[star] for image in images]
+
+
+def median(values):
+    """The middle one of the sorted values, the lower one of two middle ones."""
+    return sorted(values)[(len(values) - 1) // 2]
+
+
+def star_medians(star_count, images):
+    """The median of each star."""
+    return [median(star_values(star, images)) for star in range(star_count)]
+
+
+def image_extinction(image, medians):
+    """The extinction of an image, given the medians of the stars."""
+    return median([magnitude - middle for magnitude, middle in zip(image, medians)])

@@ -1,0 +1,93 @@
+"""What several tests need: tables in the form in which they are handed in."""
+
+import copy
+import unittest
+
+
+def unsigned(values, bits=32):
+    """The values as they are handed in and answered: negative ones with 2 ** bits added."""
+    return [value + 2 ** bits if value < 0 else value for value in values]
+
+
+def signed(values):
+    return [value - 2 ** 32 if value >= 2 ** 31 else value for value in values]
+
+
+def table(images):
+    """A list of images, each a list of signed magnitudes, as one list to hand in."""
+    return unsigned([magnitude for image in images for magnitude in image])
+
+
+def scattered_numbers(count, bound, seed):
+    """Numbers from -bound to bound, far apart from one another, the same ones at each run."""
+    numbers = []
+    state = seed
+    for _ in range(count):
+        state = (state * 6364136223846793005 + 1442695040888963407) % 2 ** 64
+        numbers.append((state >> 33) % (2 * bound + 1) - bound)
+    return numbers
+
+
+def scattered_images(star_count, image_count, bound=99999, seed=1):
+    numbers = scattered_numbers(star_count * image_count, bound, seed)
+    return [numbers[image * star_count:][:star_count] for image in range(image_count)]
+
+
+# One table size of each kind: the edges of both counts, odd and even numbers of each.
+SIZES = [(1, 1), (1, 2), (1, 3), (1, 64), (2, 1), (3, 1), (2, 2), (3, 4), (4, 3), (5, 5), (6, 7),
+         (31, 63), (32, 1), (32, 2), (32, 64)]
+
+# Numbers that stand for no magnitude, the nearest ones to the range among them.
+NO_MAGNITUDES = unsigned([100000, -100000, 100001, -100001, 2 ** 31 - 1, -2 ** 31])
+
+
+class OperationTest(unittest.TestCase):
+    """Ways to check that fit each operation."""
+
+    def check_pure(self, operation, *arguments):
+        """Calls twice and checks that nothing handed in changes and nothing is kept."""
+        before = copy.deepcopy(arguments)
+        first = operation(*arguments)
+        self.assertEqual(arguments, before)
+        kept = list(first)
+        first.append(1)
+        first[0] = 7
+        self.assertEqual(operation(*arguments), kept)
+        self.assertEqual(arguments, before)
+
+    def check_form(self, answer, length):
+        """An answer that is no error: a list of that length, 0 first, plain whole numbers."""
+        self.assertIs(type(answer), list)
+        self.assertEqual(len(answer), length)
+        self.assertEqual(answer[0], 0)
+        for number in answer:
+            self.assertIs(type(number), int)
+            self.assertGreaterEqual(number, 0)
+
+    def check_table_size_errors(self, operation):
+        """The -2 of an operation whose only scalar argument is star_count."""
+        self.assertEqual(operation(0, []), [-2])
+        for star_count in (1, 2, 32, 33, 34, 64, 2200, 2 ** 31, 2 ** 32 - 1):
+            self.assertEqual(operation(star_count, []), [-2])
+        for star_count, image_count in ((33, 1), (33, 64), (33, 65), (34, 2), (64, 1), (100, 22), (2200, 1)):
+            self.assertEqual(operation(star_count, [5] * (star_count * image_count)), [-2])
+        for star_count, image_count in ((1, 65), (1, 66), (1, 2200), (2, 65), (31, 65), (32, 65), (32, 68)):
+            self.assertEqual(operation(star_count, [5] * (star_count * image_count)), [-2])
+
+    def check_magnitude_errors(self, operation):
+        """The -3 of an operation whose only scalar argument is star_count."""
+        for wrong in NO_MAGNITUDES:
+            self.assertEqual(operation(1, [wrong]), [-3])
+            for place in range(6):
+                magnitudes = table([[1, -2], [3, 99999], [-99999, 6]])
+                magnitudes[place] = wrong
+                self.assertEqual(operation(2, magnitudes), [-3])
+            self.assertEqual(operation(32, [0] * (32 * 64 - 1) + [wrong]), [-3])
+
+    def check_error_order(self, operation):
+        """-2 ahead of -3, for an operation whose only scalar argument is star_count."""
+        for wrong in NO_MAGNITUDES:
+            self.assertEqual(operation(33, [wrong] * 33), [-2])
+            self.assertEqual(operation(1, [wrong] * 65), [-2])
+            self.assertEqual(operation(32, [wrong] * (32 * 65)), [-2])
+            self.assertEqual(operation(2200, [wrong] * 2200), [-2])
