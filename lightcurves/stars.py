@@ -1,6 +1,7 @@
 """The operations of the light curve analysis, each a function of its own."""
 
-from lightcurves.tables import image_extinction, read_images, star_medians, table_refusal, to_unsigned
+from lightcurves.tables import differential_magnitude, image_extinction, read_images, scatter_of, star_medians
+from lightcurves.tables import star_values, table_refusal, to_unsigned, weights_allowed
 
 
 def extinctions(star_count, magnitudes):
@@ -29,3 +30,26 @@ def corrected_magnitudes(star_count, magnitudes):
         extinction = image_extinction(image, medians)
         answer.extend([to_unsigned(magnitude - extinction) for magnitude in image])
     return answer
+
+
+def scatters(star_count, magnitudes):
+    """Operation 2: the scatter of each star."""
+    code = table_refusal(star_count, magnitudes)
+    if code != 0:
+        return [code]
+    images = read_images(star_count, magnitudes)
+    # A scatter is never negative, so it is answered as it is.
+    return [0] + [scatter_of(star_values(star, images)) for star in range(star_count)]
+
+
+def differential_magnitudes(star_count, star, weights, magnitudes):
+    """Operation 3: the differential magnitude of one star in each image."""
+    if not weights_allowed(weights):
+        return [-2]
+    code = table_refusal(star_count, magnitudes)
+    if code != 0:
+        return [code]
+    if star >= star_count:
+        return [-4]
+    images = read_images(star_count, magnitudes)
+    return [0] + [to_unsigned(differential_magnitude(star, weights, image)) for image in images]

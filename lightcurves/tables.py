@@ -3,6 +3,7 @@
 MOST_STARS = 32
 MOST_IMAGES = 64
 MAGNITUDE_BOUND = 100000
+GREATEST_WEIGHT = 65535
 
 
 def to_signed(number):
@@ -30,6 +31,11 @@ def size_allowed(star_count, table_length):
 def magnitudes_allowed(magnitudes):
     """Whether each of the numbers stands for a magnitude."""
     return all([abs(to_signed(number)) < MAGNITUDE_BOUND for number in magnitudes])
+
+
+def weights_allowed(weights):
+    """Whether each of the weights is in its range."""
+    return all([weight <= GREATEST_WEIGHT for weight in weights])
 
 
 def table_refusal(star_count, magnitudes):
@@ -65,3 +71,26 @@ def star_medians(star_count, images):
 def image_extinction(image, medians):
     """The extinction of an image, given the medians of the stars."""
     return median([magnitude - middle for magnitude, middle in zip(image, medians)])
+
+
+def scatter_of(values):
+    """The scatter of the values, in 256ths of a squared magnitude."""
+    count = len(values)
+    spread = count * sum([value * value for value in values]) - sum(values) ** 2
+    return 256 * spread // (count * count)
+
+
+def round_div(a, b):
+    """a / b for b > 0, rounded to the nearest whole number; ties round up."""
+    return (2 * a + b) // (2 * b)
+
+
+def differential_magnitude(star, weights, image):
+    """The magnitude of the star in an image relative to the weighted mean of the others."""
+    others = list(weights)
+    others[star] = 0
+    total = sum(others)
+    if total == 0:
+        return 0
+    weighted = sum([weight * magnitude for weight, magnitude in zip(others, image)])
+    return image[star] - round_div(weighted, total)

@@ -4,9 +4,9 @@ import copy
 import unittest
 
 
-def unsigned(values, bits=32):
-    """The values as they are handed in and answered: negative ones with 2 ** bits added."""
-    return [value + 2 ** bits if value < 0 else value for value in values]
+def unsigned(values):
+    """The values as they are handed in and answered: negative ones with 2 ** 32 added."""
+    return [value + 2 ** 32 if value < 0 else value for value in values]
 
 
 def signed(values):
@@ -37,6 +37,10 @@ def scattered_images(star_count, image_count, bound=99999, seed=1):
 SIZES = [(1, 1), (1, 2), (1, 3), (1, 64), (2, 1), (3, 1), (2, 2), (3, 4), (4, 3), (5, 5), (6, 7),
          (31, 63), (32, 1), (32, 2), (32, 64)]
 
+# Tables with too many stars, too many images or both, none longer than 2200.
+WRONG_SIZES = [(33, 1), (33, 64), (33, 65), (34, 2), (64, 1), (64, 34),
+               (1, 65), (1, 66), (1, 2200), (2, 65), (31, 65), (32, 65), (32, 68)]
+
 # Numbers that stand for no magnitude, the nearest ones to the range among them.
 NO_MAGNITUDES = unsigned([100000, -100000, 100001, -100001, 2 ** 31 - 1, -2 ** 31])
 
@@ -65,17 +69,14 @@ class OperationTest(unittest.TestCase):
             self.assertGreaterEqual(number, 0)
 
     def check_table_size_errors(self, operation):
-        """The -2 of an operation whose only scalar argument is star_count."""
-        self.assertEqual(operation(0, []), [-2])
-        for star_count in (1, 2, 32, 33, 34, 64, 2200, 2 ** 31, 2 ** 32 - 1):
+        """The -2 for counts outside their ranges, of an operation called with star_count and magnitudes."""
+        for star_count in (0, 1, 2, 32, 33, 34, 64, 2200, 2 ** 31, 2 ** 32 - 1):
             self.assertEqual(operation(star_count, []), [-2])
-        for star_count, image_count in ((33, 1), (33, 64), (33, 65), (34, 2), (64, 1), (100, 22), (2200, 1)):
-            self.assertEqual(operation(star_count, [5] * (star_count * image_count)), [-2])
-        for star_count, image_count in ((1, 65), (1, 66), (1, 2200), (2, 65), (31, 65), (32, 65), (32, 68)):
+        for star_count, image_count in WRONG_SIZES:
             self.assertEqual(operation(star_count, [5] * (star_count * image_count)), [-2])
 
     def check_magnitude_errors(self, operation):
-        """The -3 of an operation whose only scalar argument is star_count."""
+        """The -3 of an operation called with star_count and magnitudes."""
         for wrong in NO_MAGNITUDES:
             self.assertEqual(operation(1, [wrong]), [-3])
             for place in range(6):
@@ -85,9 +86,7 @@ class OperationTest(unittest.TestCase):
             self.assertEqual(operation(32, [0] * (32 * 64 - 1) + [wrong]), [-3])
 
     def check_error_order(self, operation):
-        """-2 ahead of -3, for an operation whose only scalar argument is star_count."""
+        """-2 ahead of -3, for an operation called with star_count and magnitudes."""
         for wrong in NO_MAGNITUDES:
-            self.assertEqual(operation(33, [wrong] * 33), [-2])
-            self.assertEqual(operation(1, [wrong] * 65), [-2])
-            self.assertEqual(operation(32, [wrong] * (32 * 65)), [-2])
-            self.assertEqual(operation(2200, [wrong] * 2200), [-2])
+            for star_count, image_count in WRONG_SIZES:
+                self.assertEqual(operation(star_count, [wrong] * (star_count * image_count)), [-2])
