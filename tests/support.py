@@ -1,4 +1,4 @@
-"""What several tests need: tables in the form in which they are handed in."""
+"""What several tests need: tables and series in the form in which they are handed in."""
 
 import copy
 import unittest
@@ -18,14 +18,19 @@ def table(images):
     return unsigned([magnitude for image in images for magnitude in image])
 
 
-def scattered_numbers(count, bound, seed):
-    """Numbers from -bound to bound, far apart from one another, the same ones at each run."""
-    numbers = []
+def scattered_times(count, greatest=2 ** 32 - 1, seed=1):
+    """Times from 0 to greatest in no order, the same ones at each run."""
+    times = []
     state = seed
     for _ in range(count):
         state = (state * 6364136223846793005 + 1442695040888963407) % 2 ** 64
-        numbers.append((state >> 33) % (2 * bound + 1) - bound)
-    return numbers
+        times.append((state >> 32) % (greatest + 1))
+    return times
+
+
+def scattered_numbers(count, bound, seed):
+    """Numbers from -bound to bound, far apart from one another, the same ones at each run."""
+    return [time - bound for time in scattered_times(count, 2 * bound, seed)]
 
 
 def scattered_images(star_count, image_count, bound=99999, seed=1):
@@ -40,6 +45,14 @@ SIZES = [(1, 1), (1, 2), (1, 3), (1, 64), (2, 1), (3, 1), (2, 2), (3, 4), (4, 3)
 # Tables with too many stars, too many images or both, none longer than 2200.
 WRONG_SIZES = [(33, 1), (33, 64), (33, 65), (34, 2), (64, 1), (64, 34),
                (1, 65), (1, 66), (1, 2200), (2, 65), (31, 65), (32, 65), (32, 68)]
+
+# Numbers of times: none, the edges, and some between.
+SERIES_LENGTHS = [0, 1, 2, 3, 4, 7, 16, 100, 1023, 1024]
+
+# Numbers of times that are too many, none above 1100.
+WRONG_LENGTHS = [1025, 1026, 1099, 1100]
+
+WRONG_PERIODS = [0, 16777217, 16777218, 2 ** 25, 2 ** 31, 2 ** 32 - 1]
 
 # Numbers that stand for no magnitude, the nearest ones to the range among them.
 NO_MAGNITUDES = unsigned([100000, -100000, 100001, -100001, 2 ** 31 - 1, -2 ** 31])
@@ -90,3 +103,19 @@ class OperationTest(unittest.TestCase):
         for wrong in NO_MAGNITUDES:
             for star_count, image_count in WRONG_SIZES:
                 self.assertEqual(operation(star_count, [wrong] * (star_count * image_count)), [-2])
+
+    def check_series_errors(self, operation):
+        """The -2 and the -3 of an operation called with times and magnitudes."""
+        for length in WRONG_LENGTHS:
+            self.assertEqual(operation([9] * length, [5] * length), [-2])
+            self.assertEqual(operation(list(range(length)), [5] * length), [-2])
+        for wrong in NO_MAGNITUDES:
+            self.assertEqual(operation([9], [wrong]), [-3])
+            self.assertEqual(operation([9] * 1024, [0] * 1023 + [wrong]), [-3])
+            for place in range(4):
+                magnitudes = unsigned([1, -2, 99999, -99999])
+                magnitudes[place] = wrong
+                self.assertEqual(operation([3, 0, 2 ** 32 - 1, 3], magnitudes), [-3])
+            for length in WRONG_LENGTHS:
+                self.assertEqual(operation([9] * length, [wrong] * length), [-2])
+                self.assertEqual(operation([9] * length, [5] * (length - 1) + [wrong]), [-2])

@@ -1,9 +1,13 @@
-"""Tables of magnitudes: checked, read, measured and made ready to be answered."""
+"""Magnitudes in tables and in series: checked, read, measured and made ready to be answered."""
 
 MOST_STARS = 32
 MOST_IMAGES = 64
 MAGNITUDE_BOUND = 100000
 GREATEST_WEIGHT = 65535
+GREATEST_FACTOR = 65535
+MOST_TIMES = 1024
+GREATEST_PERIOD = 16777216
+PHASES = 65536
 
 
 def to_signed(number):
@@ -38,9 +42,28 @@ def weights_allowed(weights):
     return all([weight <= GREATEST_WEIGHT for weight in weights])
 
 
+def factor_allowed(factor):
+    """Whether the factor is in its range."""
+    return factor <= GREATEST_FACTOR
+
+
+def period_allowed(period):
+    """Whether the period is in its range."""
+    return period >= 1 and period <= GREATEST_PERIOD
+
+
 def table_refusal(star_count, magnitudes):
     """The error code for a table, or 0 if nothing is wrong with it."""
     if not size_allowed(star_count, len(magnitudes)):
+        return -2
+    if not magnitudes_allowed(magnitudes):
+        return -3
+    return 0
+
+
+def series_refusal(times, magnitudes):
+    """The error code for magnitudes with their times, or 0 if nothing is wrong with them."""
+    if len(times) > MOST_TIMES:
         return -2
     if not magnitudes_allowed(magnitudes):
         return -3
@@ -80,6 +103,11 @@ def scatter_of(values):
     return 256 * spread // (count * count)
 
 
+def star_scatters(star_count, images):
+    """The scatter of each star."""
+    return [scatter_of(star_values(star, images)) for star in range(star_count)]
+
+
 def round_div(a, b):
     """a / b for b > 0, rounded to the nearest whole number; ties round up."""
     return (2 * a + b) // (2 * b)
@@ -94,3 +122,15 @@ def differential_magnitude(star, weights, image):
         return 0
     weighted = sum([weight * magnitude for weight, magnitude in zip(others, image)])
     return image[star] - round_div(weighted, total)
+
+
+def time_phase(period, time):
+    """The phase of a time, in 65536ths of the period."""
+    return PHASES * (time % period) // period
+
+
+def folded_series(period, times, magnitudes):
+    """The pairs of phase and signed magnitude in increasing order of phase."""
+    pairs = [(time_phase(period, time), to_signed(number)) for time, number in zip(times, magnitudes)]
+    # By the phase alone, since pairs of equal phases keep their order.
+    return sorted(pairs, key=lambda pair: pair[0])
