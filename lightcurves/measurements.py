@@ -7,6 +7,9 @@ GREATEST_WEIGHT = 65535
 GREATEST_FACTOR = 65535
 MOST_TIMES = 1024
 GREATEST_PERIOD = 16777216
+GREATEST_STEP = 65536
+MOST_BINS = 64
+MOST_TRIALS = 64
 PHASES = 65536
 
 
@@ -50,6 +53,17 @@ def factor_allowed(factor):
 def period_allowed(period):
     """Whether the period is in its range."""
     return period >= 1 and period <= GREATEST_PERIOD
+
+
+def bins_allowed(bins):
+    """Whether a number of bins, in all or in a box, is in its range."""
+    return bins >= 1 and bins <= MOST_BINS
+
+
+def trials_allowed(first, step, trials):
+    """Whether the first trial period, the step and the number of trials are in their ranges."""
+    # The trial periods behind the first one may lie beyond the range of a period.
+    return period_allowed(first) and step <= GREATEST_STEP and trials >= 1 and trials <= MOST_TRIALS
 
 
 def table_refusal(star_count, magnitudes):
@@ -96,11 +110,14 @@ def image_extinction(image, medians):
     return median([magnitude - middle for magnitude, middle in zip(image, medians)])
 
 
+def spread_of(values):
+    """The variance of the values times the square of their number."""
+    return len(values) * sum([value * value for value in values]) - sum(values) ** 2
+
+
 def scatter_of(values):
     """The scatter of the values, in 256ths of a squared magnitude."""
-    count = len(values)
-    spread = count * sum([value * value for value in values]) - sum(values) ** 2
-    return 256 * spread // (count * count)
+    return 256 * spread_of(values) // len(values) ** 2
 
 
 def star_scatters(star_count, images):
@@ -134,3 +151,53 @@ def folded_series(period, times, magnitudes):
     pairs = [(time_phase(period, time), to_signed(number)) for time, number in zip(times, magnitudes)]
     # By the phase alone, since pairs of equal phases keep their order.
     return sorted(pairs, key=lambda pair: pair[0])
+
+
+def string_length(series):
+    """The string length of a folded series."""
+    magnitudes = [pair[1] for pair in series]
+    # Behind the last magnitude the first one follows.
+    following = magnitudes[1:] + magnitudes[:1]
+    return sum([abs(after - before) for before, after in zip(magnitudes, following)])
+
+
+def binned_magnitudes(bins, series):
+    """For each bin the list of the magnitudes that it contains."""
+    contents = [[] for place in range(bins)]
+    for pair in series:
+        contents[pair[0] * bins // PHASES].append(pair[1])
+    return contents
+
+
+def binned_scatter(bins, series):
+    """The binned scatter of a folded series."""
+    filled = [magnitudes for magnitudes in binned_magnitudes(bins, series) if len(magnitudes) > 0]
+    return sum([spread_of(magnitudes) // len(magnitudes) for magnitudes in filled])
+
+
+def trial_value(criterion, bins, series):
+    """The value of a trial period, given the series folded with it."""
+    if criterion == 0:
+        return string_length(series)
+    return binned_scatter(bins, series)
+
+
+def box_depth(start, width, counts, sums):
+    """The depth of a box, given the number and the sum of the magnitudes in each bin."""
+    bins = len(counts)
+    inside = [place for place in range(bins) if (place - start) % bins < width]
+    count = sum([counts[place] for place in inside])
+    total = sum([sums[place] for place in inside])
+    # Where the box contains all magnitudes or none, both products are 0.
+    return total * (sum(counts) - count) - (sum(sums) - total) * count
+
+
+def deepest_box(max_width, counts, sums):
+    """Start, width and depth of the first box with the greatest depth, or three times 0."""
+    best = [0, 0, 0]
+    for width in range(1, max_width + 1):
+        for start in range(len(counts)):
+            depth = box_depth(start, width, counts, sums)
+            if depth > best[2]:
+                best = [start, width, depth]
+    return best

@@ -1,8 +1,9 @@
 """The operations of the light curve analysis, each a function of its own."""
 
-from lightcurves.measurements import differential_magnitude, factor_allowed, folded_series, image_extinction
-from lightcurves.measurements import median, period_allowed, read_images, series_refusal, star_medians
-from lightcurves.measurements import star_scatters, table_refusal, to_unsigned, weights_allowed
+from lightcurves.measurements import binned_magnitudes, bins_allowed, deepest_box, differential_magnitude
+from lightcurves.measurements import factor_allowed, folded_series, image_extinction, median, period_allowed
+from lightcurves.measurements import read_images, series_refusal, star_medians, star_scatters, table_refusal
+from lightcurves.measurements import to_unsigned, trial_value, trials_allowed, weights_allowed
 
 
 def extinctions(star_count, magnitudes):
@@ -82,3 +83,32 @@ def fold(period, times, magnitudes):
     answer.append(len(series))
     answer.extend([to_unsigned(pair[1]) for pair in series])
     return answer
+
+
+def search_periods(criterion, bins, first, step, trials, times, magnitudes):
+    """Operation 6: which trial period is the best one, and the value of each."""
+    if criterion > 1 or not bins_allowed(bins) or not trials_allowed(first, step, trials):
+        return [-2]
+    code = series_refusal(times, magnitudes)
+    if code != 0:
+        return [code]
+    values = []
+    for trial in range(trials):
+        series = folded_series(first + step * trial, times, magnitudes)
+        values.append(trial_value(criterion, bins, series))
+    # A value is never negative, so it is answered as it is.
+    return [values.index(min(values))] + values
+
+
+def best_box(period, bins, max_width, times, magnitudes):
+    """Operation 7: the start, the width and the depth of the deepest box."""
+    if not period_allowed(period) or not bins_allowed(bins) or not bins_allowed(max_width):
+        return [-2]
+    code = series_refusal(times, magnitudes)
+    if code != 0:
+        return [code]
+    contents = binned_magnitudes(bins, folded_series(period, times, magnitudes))
+    counts = [len(inside) for inside in contents]
+    sums = [sum(inside) for inside in contents]
+    # The depth of the deepest box is never negative, so it is answered as it is.
+    return [0] + deepest_box(max_width, counts, sums)
