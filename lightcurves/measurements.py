@@ -1,4 +1,4 @@
-"""Magnitudes in tables and in series: checked, read, measured and made ready to be answered."""
+"""Magnitudes in tables, in series and on parabolas: checked, read, measured and made ready to be answered."""
 
 MOST_STARS = 32
 MOST_IMAGES = 64
@@ -24,6 +24,13 @@ def to_unsigned(number):
     """A signed 32-bit integer in the form in which it is answered."""
     if number < 0:
         return number + 2 ** 32
+    return number
+
+
+def to_unsigned_64(number):
+    """A signed 64-bit integer in the form in which it is answered."""
+    if number < 0:
+        return number + 2 ** 64
     return number
 
 
@@ -64,6 +71,11 @@ def trials_allowed(first, step, trials):
     """Whether the first trial period, the step and the number of trials are in their ranges."""
     # The trial periods behind the first one may lie beyond the range of a period.
     return period_allowed(first) and step <= GREATEST_STEP and trials >= 1 and trials <= MOST_TRIALS
+
+
+def distance_allowed(step):
+    """Whether the distance of the three times of a parabola is in its range."""
+    return step >= 1 and step <= GREATEST_STEP
 
 
 def table_refusal(star_count, magnitudes):
@@ -201,3 +213,24 @@ def deepest_box(max_width, counts, sums):
             if depth > best[2]:
                 best = [start, width, depth]
     return best
+
+
+def parabola_minimum_time(time, step, a, b, c):
+    """The time of the minimum of the parabola through three values, or the middle time if it has none."""
+    d = a - 2 * b + c
+    if d <= 0:
+        return time
+    return time + round_div(step * (a - c), 2 * d)
+
+
+def partner_difference(tolerance, axis, measurement, series):
+    """The absolute difference of the magnitudes of a measurement and its partner, or 0 without a partner.
+
+    A measurement is a pair of time and signed magnitude, and the series is the list of all of them.
+    """
+    mirrored = 2 * axis - measurement[0]
+    # The partner may be any measurement of the series, this one and earlier ones too.
+    for time, magnitude in series:
+        if abs(time - mirrored) <= tolerance:
+            return abs(magnitude - measurement[1])
+    return 0

@@ -1,9 +1,10 @@
 """The operations of the light curve analysis, each a function of its own."""
 
 from lightcurves.measurements import binned_magnitudes, bins_allowed, deepest_box, differential_magnitude
-from lightcurves.measurements import factor_allowed, folded_series, image_extinction, median, period_allowed
-from lightcurves.measurements import read_images, series_refusal, star_medians, star_scatters, table_refusal
-from lightcurves.measurements import to_unsigned, trial_value, trials_allowed, weights_allowed
+from lightcurves.measurements import distance_allowed, factor_allowed, folded_series, image_extinction, median
+from lightcurves.measurements import parabola_minimum_time, partner_difference, period_allowed, read_images
+from lightcurves.measurements import series_refusal, star_medians, star_scatters, table_refusal, to_signed
+from lightcurves.measurements import to_unsigned, to_unsigned_64, trial_value, trials_allowed, weights_allowed
 
 
 def extinctions(star_count, magnitudes):
@@ -112,3 +113,22 @@ def best_box(period, bins, max_width, times, magnitudes):
     sums = [sum(inside) for inside in contents]
     # The depth of the deepest box is never negative, so it is answered as it is.
     return [0] + deepest_box(max_width, counts, sums)
+
+
+def parabola_minimum(time, step, a, b, c):
+    """Operation 8: the time of minimum of the parabola through three values."""
+    if not distance_allowed(step):
+        return [-2]
+    minimum = parabola_minimum_time(to_signed(time), step, to_signed(a), to_signed(b), to_signed(c))
+    return [0, to_unsigned_64(minimum)]
+
+
+def asymmetry(tolerance, time, times, magnitudes):
+    """Operation 9: how unlike the magnitudes ahead of a time are to those that mirror them."""
+    code = series_refusal(times, magnitudes)
+    if code != 0:
+        return [code]
+    series = [(taken, to_signed(number)) for taken, number in zip(times, magnitudes)]
+    earlier = [measurement for measurement in series if measurement[0] < time]
+    # A sum of absolute differences is never negative, so it is answered as it is.
+    return [0, sum([partner_difference(tolerance, time, measurement, series) for measurement in earlier])]
