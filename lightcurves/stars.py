@@ -3,8 +3,9 @@
 from lightcurves.measurements import binned_magnitudes, bins_allowed, deepest_box, differential_magnitude
 from lightcurves.measurements import distance_allowed, factor_allowed, folded_series, image_extinction, median
 from lightcurves.measurements import parabola_minimum_time, partner_difference, period_allowed, read_images
-from lightcurves.measurements import series_refusal, star_medians, star_scatters, table_refusal, to_signed
-from lightcurves.measurements import to_unsigned, to_unsigned_64, trial_value, trials_allowed, weights_allowed
+from lightcurves.measurements import series_refusal, star_medians, star_scatters, table_refusal, time_phase
+from lightcurves.measurements import to_signed, to_unsigned, to_unsigned_64, trial_value, trials_allowed
+from lightcurves.measurements import weights_allowed
 
 
 def extinctions(star_count, magnitudes):
@@ -132,3 +133,9 @@ def asymmetry(tolerance, time, times, magnitudes):
     earlier = [measurement for measurement in series if measurement[0] < time]
     # A sum of absolute differences is never negative, so it is answered as it is.
     return [0, sum([partner_difference(tolerance, time, measurement, series) for measurement in earlier])]
+
+
+def phase(period, time):
+    """Operation 10: the phase of a time, alone and without a 0 ahead of it."""
+    # Any period is allowed here, and one of 0 is treated as 1.
+    return [time_phase(max(1, period), time)]

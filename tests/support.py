@@ -1,7 +1,9 @@
-"""What several tests need: tables and series in the form in which they are handed in."""
+"""What several tests need: tables and series in the form in which they are handed in, and checks."""
 
 import copy
 import unittest
+from fractions import Fraction
+from math import floor
 
 
 def unsigned(values):
@@ -36,6 +38,12 @@ def scattered_numbers(count, bound, seed):
 def scattered_images(star_count, image_count, bound=99999, seed=1):
     numbers = scattered_numbers(star_count * image_count, bound, seed)
     return [numbers[image * star_count:][:star_count] for image in range(image_count)]
+
+
+def phase_of(period, time):
+    """The phase as the part of the period that has gone by, in 65536ths."""
+    periods = Fraction(time, period)
+    return floor((periods - floor(periods)) * 65536)
 
 
 # One table size of each kind: the edges of both counts, odd and even numbers of each.

@@ -4,16 +4,14 @@ from math import floor
 
 from lightcurves.stars import best_box
 from support import (NO_MAGNITUDES, SERIES_LENGTHS, WRONG_LENGTHS, WRONG_PERIODS, OperationTest,
-                     scattered_numbers, scattered_times, unsigned)
+                     phase_of, scattered_numbers, scattered_times, unsigned)
 
 NO_BOX = (0, 0, 0)
 WRONG_BINS = [0, 65, 66, 256, 2 ** 31, 2 ** 32 - 1]
 
 
 def bin_of(period, bins, time):
-    periods = Fraction(time, period)
-    phase = floor((periods - floor(periods)) * 65536)
-    return floor(Fraction(phase, 65536) * bins)
+    return floor(Fraction(phase_of(period, time), 65536) * bins)
 
 
 def depth(start, width, bins, measurements):

@@ -1,22 +1,14 @@
 import unittest
-from fractions import Fraction
-from math import floor
 
 from lightcurves.stars import fold
 from support import (NO_MAGNITUDES, SERIES_LENGTHS, WRONG_LENGTHS, WRONG_PERIODS, OperationTest,
-                     scattered_numbers, scattered_times, unsigned)
+                     phase_of, scattered_numbers, scattered_times, unsigned)
 
 PERIODS = [1, 2, 3, 10, 1000, 65535, 65536, 65537, 1000003, 16777215, 16777216]
 
 
 def answer(phases, magnitudes):
     return [0, len(phases)] + phases + [len(magnitudes)] + unsigned(magnitudes)
-
-
-def phase_of(period, time):
-    """The phase as the part of the period that has gone by, in 65536ths."""
-    periods = Fraction(time, period)
-    return floor((periods - floor(periods)) * 65536)
 
 
 def expected(period, times, magnitudes):

@@ -4,18 +4,12 @@ from math import floor
 
 from lightcurves.stars import search_periods
 from support import (NO_MAGNITUDES, SERIES_LENGTHS, WRONG_LENGTHS, WRONG_PERIODS, OperationTest,
-                     scattered_numbers, scattered_times, unsigned)
+                     phase_of, scattered_numbers, scattered_times, unsigned)
 
 STRING_LENGTH = 0
 BINNED_SCATTER = 1
 ALL_BINS = [1, 2, 3, 7, 10, 32, 60, 63, 64]
 WRONG_BINS = [0, 65, 66, 256, 2 ** 31, 2 ** 32 - 1]
-
-
-def phase_of(period, time):
-    """The phase as the part of the period that has gone by, in 65536ths."""
-    periods = Fraction(time, period)
-    return floor((periods - floor(periods)) * 65536)
 
 
 def string_length(period, times, magnitudes):
